@@ -1,0 +1,1 @@
+"""Coins made of coins: see madecoins.tosses.answers."""
