@@ -36,3 +36,12 @@ class Holder:
     def drop(self, i):
         self.change(self.rows[:i] + self.rows[i + 1:])
         return len(self.rows)
+
+    def changes(self):
+        return len(self.past)
+
+    def back(self):
+        """Takes back the last change, which is there; how many can still be."""
+        self.rows = self.past[-1]
+        self.past = self.past[:-1]
+        return self.changes()

@@ -1,6 +1,7 @@
 """The numbers that tell a refusal."""
 
 NO_SUCH_COIN = -2
+NO_CHANGE = -6
 NOT_BEGUN = -11
 NOT_AS_TOLD = -22
 TOO_MANY_COINS = -28

@@ -14,6 +14,22 @@ def choose(n, k):
     return ways
 
 
+def power(base, times):
+    made = 1
+    for again in range(times):
+        made = made * base
+    return made
+
+
+def weighed(numbers, one, other):
+    """Of each number, at place j of the last place n: times one to the power of j, other to that of n - j."""
+    last = len(numbers) - 1
+    total = 0
+    for place in range(len(numbers)):
+        total = total + numbers[place] * power(one, place) * power(other, last - place)
+    return total
+
+
 def tosses_of(row):
     return len(row) - 1
 
@@ -56,6 +72,20 @@ def toss_fewer(row):
     return shorter
 
 
+def with_fewest_tosses(row):
+    left = list(row)
+    shorter = toss_fewer(left)
+    while shorter is not None:
+        left = shorter
+        shorter = toss_fewer(left)
+    return left
+
+
+def chance_at(row, a, b):
+    """Its chance if a toss is heads with chance a by b, times b to the power of its tosses."""
+    return weighed(row, a, b - a)
+
+
 def opposite(row):
     tosses = tosses_of(row)
     return [choose(tosses, heads) - row[heads] for heads in range(len(row))]
@@ -80,6 +110,10 @@ def stretched(row, tosses):
     while tosses_of(longer) < tosses:
         longer = toss_more(longer)
     return longer
+
+
+def are_same(first, second):
+    return stretched(first, MOST_TOSSES) == stretched(second, MOST_TOSSES)
 
 
 def added_up(first, second):

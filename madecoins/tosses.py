@@ -1,15 +1,16 @@
 """The calls, handed in as one list of whole numbers, and their answers."""
 
+from madecoins.draws import are_tosses, first_unlike_pair, says_yes
 from madecoins.holder import Holder
-from madecoins.polynomials import coin_with_fewest_tosses, is_polynomial
-from madecoins.refusals import NO_SUCH_COIN, NOT_AS_TOLD, NOT_BEGUN, THERE_IS_NONE, TOO_MANY_TOSSES
-from madecoins.rows import MOST_TOSSES, both, either, if_yes, is_coin, opposite, toss_fewer, toss_more
-from madecoins.rows import tossed_by, tosses_of
+from madecoins.polynomials import by_powers, can_never_be, coin_with_fewest_tosses, is_polynomial
+from madecoins.refusals import NO_CHANGE, NO_SUCH_COIN, NOT_AS_TOLD, NOT_BEGUN, THERE_IS_NONE, TOO_MANY_TOSSES
+from madecoins.rows import MOST_TOSSES, are_same, both, chance_at, either, if_yes, is_coin, opposite, power
+from madecoins.rows import toss_fewer, toss_more, tossed_by, tosses_of, with_fewest_tosses
 
 BEGIN = 0
+LARGEST_B = 20
 
 # By a call's number: how many coins it tells, how many other whole numbers, how many rows.
-# All calls are here, those that are still to be written too: ahead of a begin each is answered.
 SHAPES = (
     (0, 0, 0),  # begin
     (0, 0, 1),  # coin
@@ -115,8 +116,83 @@ def of(holder, numbers, row):
     return [holder.add(tossed_by(first, second))]
 
 
-# By a call's number; the calls from row on are still to be written.
-CALLS = (begin, coin, poly, drop, more, less, not_of, and_of, or_of, if_then, of)
+def with_count(numbers):
+    return [len(numbers)] + numbers
+
+
+def coin_row(holder, numbers, row):
+    return with_count(holder.rows[numbers[0]])
+
+
+def coefs(holder, numbers, row):
+    return with_count(by_powers(holder.rows[numbers[0]]))
+
+
+def chance(holder, numbers, row):
+    told = holder.rows[numbers[0]]
+    a = numbers[1]
+    b = numbers[2]
+    if b < 1 or b > LARGEST_B or a > b:
+        return [NOT_AS_TOLD]
+    return [0, chance_at(told, a, b), power(b, tosses_of(told))]
+
+
+def same(holder, numbers, row):
+    return [1 if are_same(holder.rows[numbers[0]], holder.rows[numbers[1]]) else 0]
+
+
+def least(holder, numbers, row):
+    return with_count(with_fewest_tosses(holder.rows[numbers[0]]))
+
+
+def says(holder, numbers, row):
+    told = holder.rows[numbers[0]]
+    if len(row) != tosses_of(told) or not are_tosses(row):
+        return [NOT_AS_TOLD]
+    return [1 if says_yes(told, row) else 0]
+
+
+def can(holder, numbers, row):
+    if not is_polynomial(row):
+        return [NOT_AS_TOLD]
+    made = coin_with_fewest_tosses(row)
+    if made is None:
+        return [THERE_IS_NONE]
+    return [tosses_of(made)]
+
+
+def never(holder, numbers, row):
+    a = numbers[0]
+    b = numbers[1]
+    if b < 2 or b > LARGEST_B or a < 1 or a >= b or not is_polynomial(row):
+        return [NOT_AS_TOLD]
+    return [1 if can_never_be(row, a, b) else 0]
+
+
+def fair(holder, numbers, row):
+    if not are_tosses(row):
+        return [NOT_AS_TOLD]
+    at = first_unlike_pair(row)
+    if at is None:
+        return [THERE_IS_NONE]
+    return [row[at], at + 2]
+
+
+def back(holder, numbers, row):
+    if holder.changes() == 0:
+        return [NO_CHANGE]
+    return [holder.back()]
+
+
+def state(holder, numbers, row):
+    return [len(holder.rows), holder.changes()]
+
+
+# By a call's number.
+CALLS = (
+    begin, coin, poly, drop, more, less, not_of, and_of, or_of, if_then, of,
+    coin_row, coefs, chance, same, least, says, can, never, fair, back, state,
+)
 
 
 def answer_to(holder, call, numbers, row):

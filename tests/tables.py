@@ -50,6 +50,46 @@ def of(i, j):
     return [10, i, j]
 
 
+def row_call(i):
+    return [11, i]
+
+
+def coefs(i):
+    return [12, i]
+
+
+def chance_call(i, a, b):
+    return [13, i, a, b]
+
+
+def same(i, j):
+    return [14, i, j]
+
+
+def least(i):
+    return [15, i]
+
+
+def says(i, *row):
+    return [16, i, len(row), *row]
+
+
+def can(*row):
+    return [17, len(row), *row]
+
+
+def never(a, b, *row):
+    return [18, a, b, len(row), *row]
+
+
+def fair(*row):
+    return [19, len(row), *row]
+
+
+BACK = [20]
+STATE = [21]
+
+
 def split(given):
     """The answers of a list that answers() gave back, one list a call."""
     parts = []
@@ -60,10 +100,17 @@ def split(given):
     return parts
 
 
+def tell(*calls):
+    """What is answered to these calls, one list a call."""
+    parts = split(answers([number for call in calls for number in call]))
+    assert len(parts) == len(calls), parts
+    return parts
+
+
 def ask(*calls):
     """The first numbers answered to these calls; each of them answers one number alone."""
-    parts = split(answers([number for call in calls for number in call]))
-    assert len(parts) == len(calls) and all(len(part) == 1 for part in parts), parts
+    parts = tell(*calls)
+    assert all(len(part) == 1 for part in parts), parts
     return [part[0] for part in parts]
 
 

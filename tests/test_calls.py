@@ -2,17 +2,17 @@ import unittest
 from math import comb
 
 from madecoins.tosses import answers
-from tables import (BEGIN, and_of, ask, coin, drop, holder_after, if_then, less, more, not_of, of, or_of, poly,
-                    rows_after, split)
+from tables import (BACK, BEGIN, STATE, and_of, ask, can, chance_call, coefs, coin, drop, fair, holder_after, if_then,
+                    least, less, more, never, not_of, of, or_of, poly, row_call, rows_after, same, says, split, tell)
 
 TEN = [comb(10, heads) for heads in range(11)]
 HUGE = 4294967295
 EIGHT = [BEGIN] + [coin(0, 1)] * 8
 
-# One call of each kind that has landed or will, in the order of their numbers.
+# One call of each kind, in the order of their numbers.
 ALL_BUT_BEGIN = [coin(0, 1), poly(0, 1), drop(0), more(0), less(0), not_of(0), and_of(0, 0), or_of(0, 0),
-                 if_then(0, 0, 0), of(0, 0), [11, 0], [12, 0], [13, 0, 1, 2], [14, 0, 0], [15, 0], [16, 0, 1, 1],
-                 [17, 2, 0, 1], [18, 1, 2, 2, 0, 1], [19, 2, 1, 0], [20], [21]]
+                 if_then(0, 0, 0), of(0, 0), row_call(0), coefs(0), chance_call(0, 1, 2), same(0, 0), least(0),
+                 says(0, 1), can(0, 1), never(1, 2, 0, 1), fair(1, 0), BACK, STATE]
 
 
 class Begin(unittest.TestCase):
@@ -265,12 +265,25 @@ class Guarded(list):
 
 
 class Lists(unittest.TestCase):
-    CALLS = [[3, 0], BEGIN, coin(0, 1), coin(), poly(0, 3, -3), more(0), less(1), less(2), not_of(0), and_of(0, 1),
-             or_of(0, 1), if_then(0, 1, 2), of(0, 1), drop(2), BEGIN, coin(1), drop(9)]
+    CHANGES = [[3, 0], BEGIN, coin(0, 1), coin(), poly(0, 3, -3), more(0), less(1), less(2), not_of(0), and_of(0, 1),
+               or_of(0, 1), if_then(0, 1, 2), of(0, 1), drop(2), BEGIN, coin(1), drop(9)]
+    LOOKS = [STATE, BEGIN, BACK, coin(0, 2, 0), row_call(0), coefs(0), more(0), least(1), same(0, 1), same(0, 2),
+             chance_call(0, 1, 3), says(0, 1, 0), says(0, 1), can(0, 3, -3), can(), never(1, 2, 0, 4, -4),
+             fair(1, 1, 0, 1), fair(1, 1, 0), STATE, BACK, BACK, STATE]
+    CALLS = CHANGES + LOOKS
 
     def test_the_answers_in_their_order(self):
         self.assertEqual(answers([0, 1, 2, 0, 1, 4, 0, 3, 5]), [1, 0, 1, 0, 1, 1, 1, -2])
-        self.assertEqual(ask(*self.CALLS), [-11, 0, 0, -22, 1, 2, -33, 3, 4, 5, 6, 7, -28, 7, 0, 0, -2])
+        self.assertEqual(ask(*self.CHANGES), [-11, 0, 0, -22, 1, 2, -33, 3, 4, 5, 6, 7, -28, 7, 0, 0, -2])
+
+    def test_looks_in_their_order(self):
+        self.assertEqual(tell(*self.LOOKS), [
+            [-11], [0], [-6], [0], [3, 0, 2, 0], [3, 0, 2, -2], [1], [3, 0, 2, 0], [1], [-2], [0, 4, 9], [1], [-22],
+            [3], [-22], [1], [0, 4], [-33], [2, 2], [1], [0], [0, 0]])
+
+    def test_a_count_ahead_of_each_answer(self):
+        self.assertEqual(answers([0, 1, 2, 0, 1, 11, 0, 12, 0, 13, 0, 1, 3, 15, 0, 19, 2, 1, 0, 21, 20, 20]),
+                         [1, 0, 1, 0, 3, 2, 0, 1, 3, 2, 0, 1, 3, 0, 1, 3, 3, 2, 0, 1, 2, 1, 2, 2, 1, 1, 1, 0, 1, -6])
 
     def test_what_is_handed_in_is_as_it_was_and_nothing_is_kept(self):
         calls = [number for call in self.CALLS for number in call]
@@ -298,6 +311,12 @@ class Lists(unittest.TestCase):
 
     def test_256_calls(self):
         self.assertEqual(ask(BEGIN, *[coin(1)] * 255), [0] + list(range(8)) + [-28] * 247)
+        self.assertEqual(tell(BEGIN, coin(*TEN), *[row_call(0)] * 254)[2:], [[11, *TEN]] * 254)
+
+    def test_as_many_numbers_as_may_be_handed_in(self):
+        calls = [BEGIN] + [fair(*[0] * 1000)] * 29 + [BACK] * 226
+        self.assertLessEqual(sum(len(call) for call in calls), 30000)
+        self.assertEqual(ask(*calls), [0] + [-33] * 29 + [-6] * 226)
 
 
 if __name__ == "__main__":

@@ -1,7 +1,8 @@
 import unittest
 from math import comb
 
-from madecoins.polynomials import by_tosses, coin_with_fewest_tosses, is_polynomial
+from madecoins.polynomials import (by_powers, by_tosses, can_never_be, coin_with_fewest_tosses, is_always,
+                                   is_polynomial)
 from madecoins.rows import fits
 from tables import POINTS, chance, coins_of, coins_up_to, powers_of, value
 
@@ -32,6 +33,37 @@ class ByTosses(unittest.TestCase):
                 self.assertEqual(len(row), tosses + 1)
                 for at in POINTS:
                     self.assertEqual(chance(row, at), value(numbers, at))
+
+
+class ByPowers(unittest.TestCase):
+    def test_it_has_the_coins_chance(self):
+        for row in coins_up_to(4):
+            numbers = by_powers(row)
+            self.assertEqual(numbers, powers_of(row))
+            self.assertEqual([value(numbers, at) for at in POINTS], [chance(row, at) for at in POINTS])
+
+    def test_by_as_many_tosses_it_is_the_row_again(self):
+        for row in coins_up_to(4) + [[1, 0, 45, 60, 7, 252, 0, 1, 44, 3, 1]]:
+            self.assertEqual(by_tosses(by_powers(row), len(row) - 1), row)
+
+
+class CanNeverBe(unittest.TestCase):
+    def test_always_the_same_number(self):
+        for numbers, number, right in (([0], 0, True), ([1], 1, True), ([1], 0, False), ([1, 0, 0], 1, True),
+                                       ([1, 0, 1], 1, False), ([0, 0, 0], 0, True), ([0, 1], 0, False)):
+            self.assertEqual(is_always(numbers, number), right)
+
+    def test_no_coin_is_told_never_to_be(self):
+        for row in coins_up_to(4):
+            for b in (2, 3, 4, 5):
+                for a in range(1, b):
+                    self.assertFalse(can_never_be(by_powers(row), a, b), row)
+
+    def test_what_is_told_is_no_coins_by_however_many_tosses(self):
+        for numbers in ([0, 4, -4], [0, 2], [-1, 2], [0, 3], [-1, 1], [2], [-1], [1, -4, 4], [1, -1, 2]):
+            self.assertTrue(can_never_be(numbers, 1, 2), numbers)
+            for tosses in range(len(numbers) - 1, 40):
+                self.assertFalse(fits(by_tosses(numbers, tosses)), numbers)
 
 
 class FewestTosses(unittest.TestCase):

@@ -23,6 +23,20 @@ class Choose(unittest.TestCase):
                 self.assertEqual(rows.choose(n, k), comb(n, k))
 
 
+class Powers(unittest.TestCase):
+    def test_times_itself(self):
+        for base in range(21):
+            for times in range(11):
+                self.assertEqual(rows.power(base, times), base ** times)
+
+    def test_weighed(self):
+        self.assertEqual(rows.weighed([5], 0, 0), 5)
+        self.assertEqual(rows.weighed([1, 10, 100], 2, 3), 9 + 60 + 400)
+        self.assertEqual(rows.weighed([1, 10, 100], 0, 3), 9)
+        self.assertEqual(rows.weighed([1, 10, 100], 2, 0), 400)
+        self.assertEqual(rows.weighed([-7, 3], 5, 4), -13)
+
+
 class IsCoin(unittest.TestCase):
     def test_every_coin_is_one(self):
         for row in coins_up_to(3):
@@ -85,6 +99,38 @@ class MoreAndFewer(unittest.TestCase):
             row = rows.toss_fewer(row)
             self.assertEqual(row, [comb(tosses, heads) for heads in range(tosses + 1)])
         self.assertEqual(rows.toss_fewer([0, 0, 0]), [0, 0])
+
+
+class FewestTosses(unittest.TestCase):
+    def test_back_through_all_tosses_more(self):
+        for row in coins_up_to(3):
+            left = rows.with_fewest_tosses(row)
+            self.assertEqual(rows.stretched(left, len(row) - 1), row)
+            self.assertIsNone(rows.toss_fewer(left))
+            self.assertEqual(rows.with_fewest_tosses(rows.stretched(row, 10)), left)
+
+    def test_what_is_given_is_neither_changed_nor_given_back(self):
+        row = [0, 1]
+        left = rows.with_fewest_tosses(row)
+        left.append(5)
+        self.assertEqual(row, [0, 1])
+
+
+class Same(unittest.TestCase):
+    def test_just_if_the_chances_are_like_everywhere(self):
+        coins = coins_up_to(3)
+        chances = [[chance(row, at) for at in POINTS] for row in coins]
+        for first in range(len(coins)):
+            for second in range(len(coins)):
+                self.assertEqual(rows.are_same(coins[first], coins[second]), chances[first] == chances[second])
+
+
+class ChanceAt(unittest.TestCase):
+    def test_times_b_to_the_power_of_its_tosses(self):
+        for tosses in range(11):
+            for row in some_coins_of(tosses, 5):
+                for a in range(13):
+                    self.assertEqual(rows.chance_at(row, a, 12), chance(row, POINTS[a]) * 12 ** tosses)
 
 
 class Opposite(unittest.TestCase):
